@@ -1,0 +1,1 @@
+"""Tensorcompiler: a compiler for tensor programs whose generated code is checked."""
