@@ -220,6 +220,25 @@ class Errors(unittest.TestCase):
         self.check(node("window", (0,), "z", "i", 0, 1), DOMAINS, RangeError)
         self.check(node("fold", (0,), "i", "i", 0, 1), DOMAINS, RangeError)
 
+    def test_4_each_end_comes_before_the_axes(self):
+        for n in (0, 17):
+            self.check(node("spread", (0,), "i", n), DOMAINS, RangeError)
+            self.check(node("cut", (0,), "z", 0, n), DOMAINS, RangeError)
+            self.check(node("window", (0,), "z", "i", n, 1), DOMAINS, RangeError)
+            self.check(node("window", (0,), "z", "i", 1, n), DOMAINS, RangeError)
+            self.check(node("fold", (0,), "i", "i", n, 1), DOMAINS, RangeError)
+            self.check(node("fold", (0,), "i", "i", 1, n), DOMAINS, RangeError)
+        for n in (-1, 17):
+            self.check(node("cut", (0,), "z", n, 1), DOMAINS, RangeError)
+            self.check(node("pad", (0,), "z", n, 0), DOMAINS, RangeError)
+            self.check(node("pad", (0,), "z", 0, n), DOMAINS, RangeError)
+        for n in (1, 16):
+            self.check(node("spread", (0,), "i", n), DOMAINS, AxisError)
+            self.check(node("cut", (0,), "z", 16, n), DOMAINS, AxisError)
+            self.check(node("pad", (0,), "z", 0, n), DOMAINS, AxisError)
+            self.check(node("window", (0,), "z", "i", n, n), DOMAINS, AxisError)
+            self.check(node("fold", (0,), "i", "i", n, n), DOMAINS, AxisError)
+
     def test_5_shapes(self):
         cases = (
             ("a1b1c1d1e1", RankError), ("i1i1", AxisError), ("i0", RangeError), ("i17", RangeError),
@@ -258,6 +277,17 @@ class Errors(unittest.TestCase):
                 node("spread", (0,), "k", 2), node("window", (0,), "i", "k", 1, 1),
                 node("window", (0,), "i", "i", 1, 1)):
             self.check(one, DOMAINS, AxisError)
+
+    def test_6_new_letters_come_before_7_and_8(self):
+        full = (domain("a1b1c1d1"),)
+        self.check(node("spread", (0,), "a", 2), full, AxisError)
+        self.check(node("spread", (0,), "e", 2), full, RankError)
+        self.check(node("window", (0,), "a", "b", 1, 1), full, AxisError)
+        self.check(node("window", (0,), "a", "a", 1, 1), full, AxisError)
+        self.check(node("window", (0,), "i", "k", 9, 1), DOMAINS, AxisError)
+        self.check(node("cut", (0,), "z", 16, 16), DOMAINS, AxisError)
+        self.check(node("gather", (0, 1), "a"), (domain("a1b1c1d1"), domain("b1e1")), AxisError)
+        self.check(node("join", (0, 1), "a"), (domain("a16b1"), domain("a16b2")), AxisError)
 
     def test_6_folds(self):
         self.check(node("fold", (0,), "i", "z", 1, 16), DOMAINS, AxisError)
