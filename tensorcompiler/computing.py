@@ -1,4 +1,4 @@
-"""The items of one computed node, made from those of its arguments by an arithmetic.
+"""The items of computed nodes, made from those of their arguments by an arithmetic.
 
 An arithmetic is an object with the methods number(n), make(kind, items, info) for a pointwise kind and
 pick(items, index), so that the same steps serve numbers and whatever else can stand for them.
@@ -23,6 +23,21 @@ class Numbers:
     def pick(self, items, index):
         """Return the item at the index."""
         return items[index]
+
+
+def all_items(arithmetic, nodes, domains, fed):
+    """Return the items of all nodes with these domains; fed has those of each input, by its index."""
+    found = []
+    for place, node in enumerate(nodes):
+        kind, args, info = node
+        if kind == "input":
+            found.append(fed[place])
+        elif kind == "const":
+            found.append(tuple([arithmetic.number(n) for n in info[1]]))
+        else:
+            shapes = [domains[arg][0] for arg in args]
+            found.append(compute(arithmetic, node, domains[place][0], shapes, [found[arg] for arg in args]))
+    return tuple(found)
 
 
 def compute(arithmetic, node, shape, shapes, values):

@@ -16,7 +16,7 @@ def domain_of(node, domains):
     """Return the domain (shape, low, high) of a node, given those of all earlier nodes."""
     kind, args, info = node
     _check_form(kind, args, info, len(domains))
-    _check_fields(kind, info)
+    check_fields(kind, info)
     given = [domains[arg] for arg in args]
     shape = shape_of_result(kind, info, [domain[0] for domain in given])
     low, high = interval_of(kind, info, given)
@@ -39,7 +39,8 @@ def _check_form(kind, args, info, many):
             raise FormError("an argument is not an earlier node")
 
 
-def _check_fields(kind, info):
+def check_fields(kind, info):
+    """Raise RangeError if a field of a node of this kind is out of its range."""
     if kind == "input" and info[1] > info[2]:
         raise RangeError("the interval of an input is empty")
     if kind == "clamp":

@@ -44,11 +44,12 @@ def total_work(nodes, domains):
     """Return the sum of the works of nodes with these domains."""
     total = 0
     for node, domain in zip(nodes, domains):
-        total = total + _work_of_node(node, domain, domains)
+        total = total + work_of_node(node, domain, domains)
     return total
 
 
-def _work_of_node(node, domain, domains):
+def work_of_node(node, domain, domains):
+    """Return the work of a node with this domain, given the domains of the nodes before it."""
     kind, args, info = node
     if kind == "input" or kind == "const":
         return 0

@@ -1,6 +1,6 @@
 """What a graph means: the values of its nodes for given feeds."""
 
-from tensorcompiler.computing import Numbers, compute
+from tensorcompiler.computing import Numbers, all_items
 from tensorcompiler.errors import FeedError, RangeError
 from tensorcompiler.graphs import check_graph, input_places
 from tensorcompiler.shapes import count_of
@@ -15,22 +15,9 @@ def evaluate(graph, feeds):
 def evaluate_all(graph, feeds):
     """Return the values of all nodes."""
     domains = check_graph(graph)
-    nodes = graph[0]
-    places = input_places(nodes)
+    places = input_places(graph[0])
     _check_feeds(feeds, [domains[place] for place in places])
-    fed = dict(zip(places, feeds))
-    numbers = Numbers()
-    values = []
-    for place, node in enumerate(nodes):
-        kind, args, info = node
-        if kind == "input":
-            values.append(fed[place])
-        elif kind == "const":
-            values.append(info[1])
-        else:
-            shapes = [domains[arg][0] for arg in args]
-            values.append(compute(numbers, node, domains[place][0], shapes, [values[arg] for arg in args]))
-    return tuple(values)
+    return all_items(Numbers(), graph[0], domains, dict(zip(places, feeds)))
 
 
 def _check_feeds(feeds, domains):

@@ -32,11 +32,10 @@ def rewritten(graph, domains, rule, node):
     nodes, outs = graph
     if node < 0 or node >= len(nodes):
         raise RuleError("there is no such node")
-    found = _match(nodes, rule, node)
-    if found is None or not condition_holds(rule, domains, found):
+    side = right_side(nodes, domains, rule, node)
+    if side is None:
         raise RuleError(f"the rule {rule} does not apply to the node")
-    found.update(further_fields(rule, domains, found))
-    made, place = _right_side(rule, node, found)
+    made, place = side
     result = _with_nodes(nodes, outs, node, made, place)
     try:
         checked = check_graph(result)
@@ -45,6 +44,15 @@ def rewritten(graph, domains, rule, node):
     if checked[place][0] != domains[node][0]:
         raise RuleError(f"the rule {rule} changes the shape of the node")
     return (result, checked)
+
+
+def right_side(nodes, domains, rule, node):
+    """Return the new nodes, and the index of what takes the place of the node; None if the rule does not apply."""
+    found = _match(nodes, rule, node)
+    if found is None or not condition_holds(rule, domains, found):
+        return None
+    found.update(further_fields(rule, domains, found))
+    return _made_nodes(rule, node, found)
 
 
 def _match(nodes, rule, node):
@@ -61,7 +69,7 @@ def _match(nodes, rule, node):
     return found
 
 
-def _right_side(rule, node, found):
+def _made_nodes(rule, node, found):
     """Return the new nodes, and the index of what takes the place of the node."""
     made = []
     names = dict(found)

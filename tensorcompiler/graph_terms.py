@@ -1,0 +1,15 @@
+"""The terms of a graph: what its nodes hold, for all feeds at once."""
+
+from tensorcompiler.computing import all_items
+from tensorcompiler.graphs import check_graph, input_places
+from tensorcompiler.shapes import count_of
+
+
+def graph_terms(table, graph):
+    """Return for each node the ids of its elements; element e of input k is the variable with the key (k, e)."""
+    domains = check_graph(graph)
+    fed = {}
+    for number, place in enumerate(input_places(graph[0])):
+        shape, low, high = domains[place]
+        fed[place] = tuple([table.variable((number, at), low, high) for at in range(count_of(shape))])
+    return all_items(table, graph[0], domains, fed)
