@@ -6,7 +6,7 @@ Items stand in row-major order.
 """
 
 from tensorcompiler.kinds import POINTWISE, pointwise
-from tensorcompiler.shapes import count_of
+from tensorcompiler.shapes import count_of, steps_of
 
 
 class Numbers:
@@ -49,16 +49,6 @@ def compute(arithmetic, node, shape, shapes, values):
     return tuple(maker(arithmetic, node[2], shape, shapes, values))
 
 
-def _steps_of(shape):
-    """Return for each letter by how much the position grows with the index on its axis."""
-    steps = {}
-    step = 1
-    for letter, size in reversed(shape):
-        steps[letter] = step
-        step = step * size
-    return steps
-
-
 def _spots(shape, steps, start):
     """Return the position for each index of the shape: start plus the steps, 0 for a letter without one."""
     spots = [start]
@@ -70,7 +60,7 @@ def _spots(shape, steps, start):
 
 def _rows(shape, given, axis):
     """Return for each index of the shape the positions in a given shape along an axis that only this one has."""
-    steps = _steps_of(given)
+    steps = steps_of(given)
     sizes = dict(given)
     along = [steps[axis] * index for index in range(sizes[axis])]
     return [[spot + far for far in along] for spot in _spots(shape, steps, 0)]
@@ -80,7 +70,7 @@ def _pointwise_items(arithmetic, node, shape, shapes, values):
     kind, _, info = node
     columns = []
     for given, items in zip(shapes, values):
-        columns.append([items[spot] for spot in _spots(shape, _steps_of(given), 0)])
+        columns.append([items[spot] for spot in _spots(shape, steps_of(given), 0)])
     many = count_of(shape)
     return tuple([arithmetic.make(kind, tuple([column[at] for column in columns]), info) for at in range(many)])
 
@@ -119,7 +109,7 @@ def _dot_items(arithmetic, info, shape, shapes, values):
 def _gather_items(arithmetic, info, shape, shapes, values):
     a, i = values
     found = []
-    spots = _spots(shape, _steps_of(shapes[1]), 0)
+    spots = _spots(shape, steps_of(shapes[1]), 0)
     for row, spot in zip(_rows(shape, shapes[0], info[0]), spots):
         index = arithmetic.make("clamp", (i[spot],), (0, len(row) - 1))
         found.append(arithmetic.pick(tuple([a[place] for place in row]), index))
@@ -131,25 +121,25 @@ def _read(shape, steps, start, items):
 
 
 def _plain_items(arithmetic, info, shape, shapes, values):
-    return _read(shape, _steps_of(shapes[0]), 0, values[0])
+    return _read(shape, steps_of(shapes[0]), 0, values[0])
 
 
 def _rename_items(arithmetic, info, shape, shapes, values):
     axis, new = info
-    steps = _steps_of(shapes[0])
+    steps = steps_of(shapes[0])
     steps[new] = steps[axis]
     return _read(shape, steps, 0, values[0])
 
 
 def _cut_items(arithmetic, info, shape, shapes, values):
     axis, start, _ = info
-    steps = _steps_of(shapes[0])
+    steps = steps_of(shapes[0])
     return _read(shape, steps, start * steps[axis], values[0])
 
 
 def _window_items(arithmetic, info, shape, shapes, values):
     axis, new, _, stride = info
-    steps = _steps_of(shapes[0])
+    steps = steps_of(shapes[0])
     steps[new] = steps[axis]
     steps[axis] = stride * steps[axis]
     return _read(shape, steps, 0, values[0])
@@ -165,13 +155,13 @@ def _gathered(arithmetic, shape, spots, items):
 
 def _pad_items(arithmetic, info, shape, shapes, values):
     axis, before, _ = info
-    steps = _steps_of(shape)
+    steps = steps_of(shape)
     return _gathered(arithmetic, shape, _spots(shapes[0], steps, before * steps[axis]), values[0])
 
 
 def _join_items(arithmetic, info, shape, shapes, values):
     axis = info[0]
-    steps = _steps_of(shape)
+    steps = steps_of(shape)
     sizes = dict(shapes[0])
     spots = _spots(shapes[0], steps, 0) + _spots(shapes[1], steps, sizes[axis] * steps[axis])
     return _gathered(arithmetic, shape, spots, list(values[0]) + list(values[1]))
@@ -179,7 +169,7 @@ def _join_items(arithmetic, info, shape, shapes, values):
 
 def _fold_items(arithmetic, info, shape, shapes, values):
     axis, second, stride, _ = info
-    steps = _steps_of(shape)
+    steps = steps_of(shape)
     steps[second] = steps[axis]
     steps[axis] = stride * steps[axis]
     return _gathered(arithmetic, shape, _spots(shapes[0], steps, 0), values[0])

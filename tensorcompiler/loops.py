@@ -11,11 +11,11 @@ _WORD_LIMIT = 4096
 _TURN_LIMIT = 1000
 _PICK_LIMIT = 16
 _BUFFER_LIMIT = 1000
-_STATEMENT_LIMIT = 20000
+STATEMENT_LIMIT = 20000
 _PART_LIMIT = 10000
 _LOOP_DEPTH = 7
 _STATEMENT_DEPTH = 10
-_LEVEL_LIMIT = 10
+LEVEL_LIMIT = 10
 _STEP_LIMIT = 4000000
 
 
@@ -139,7 +139,7 @@ def _check_part_range(part):
 def _check_sizes(buffers, walked):
     if len(buffers) > _BUFFER_LIMIT:
         raise TooLarge("a program has too many buffers")
-    if len(walked) > _STATEMENT_LIMIT:
+    if len(walked) > STATEMENT_LIMIT:
         raise TooLarge("a program has too many statements")
     if sum([len(parts) for _, _, parts in walked]) > _PART_LIMIT:
         raise TooLarge("a program has too many expressions")
@@ -148,7 +148,7 @@ def _check_sizes(buffers, walked):
             raise TooLarge("a statement has too many statements around it")
         if statement[0] == "loop" and len(loop_variables(around)) > _LOOP_DEPTH:
             raise TooLarge("a loop has too many loops around it")
-        if len(parts) > 0 and max([level for _, level in parts]) > _LEVEL_LIMIT:
+        if len(parts) > 0 and max([level for _, level in parts]) > LEVEL_LIMIT:
             raise TooLarge("an expression has too many levels")
 
 

@@ -63,6 +63,16 @@ def replaced(shape, axis, axes):
     return tuple(found)
 
 
+def steps_of(shape):
+    """Return for each letter by how much the position grows with the index on its axis, a dict."""
+    steps = {}
+    step = 1
+    for letter, size in reversed(shape):
+        steps[letter] = step
+        step = step * size
+    return steps
+
+
 def offset(shape, at):
     """Return the position of the element with these indexes."""
     position = 0

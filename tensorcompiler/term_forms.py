@@ -50,9 +50,7 @@ def sum_of(table, term):
 
 
 def form_of_sum(table, number, pairs):
-    """Return the normal form of a sum."""
-    if len(pairs) == 0:
-        return ("number", number)
+    """Return the normal form of a sum that is no number."""
     if number == 0 and len(pairs) == 1 and pairs[0][1] == 1:
         return table.form(pairs[0][0])
     return ("sum", number, pairs)
@@ -121,8 +119,6 @@ def _cancelled(table, number, pairs):
 
 def _times(table, term, by):
     """Return a term times a number."""
-    if by == 0:
-        return _settled(0)
     number, pairs = sum_of(table, term)
     low, high = corners((by, by), table.span(term))
     return (form_of_sum(table, by * number, tuple([(unit, by * factor) for unit, factor in pairs])), low, high)

@@ -33,7 +33,7 @@ def all_statements(body, around):
     """
     found = []
     for statement in body:
-        _check_known(statement, _STATEMENT_LENGTHS)
+        _check_length(statement, _STATEMENT_LENGTHS.get(_name_of(statement)))
         found.append((statement, around))
         found.extend(all_statements(body_of(statement), around + (statement,)))
     return found
@@ -44,7 +44,7 @@ def all_parts(expr, level):
 
     FormError if one is unknown.
     """
-    _check_known(expr, _EXPRESSION_LENGTHS)
+    _check_length(expr, _EXPRESSION_LENGTHS.get(_name_of(expr)))
     found = [(expr, level)]
     for inner in inner_of(expr):
         found.extend(all_parts(inner, level + 1))
@@ -83,6 +83,11 @@ def loop_variables(around):
     return [statement[1] for statement in around if statement[0] == "loop"]
 
 
-def _check_known(thing, lengths):
-    if len(thing) == 0 or thing[0] not in lengths or len(thing) != lengths[thing[0]]:
+def _name_of(thing):
+    return thing[0] if len(thing) > 0 else ""
+
+
+def _check_length(thing, length):
+    """Raise FormError unless the statement or expression has this length, which is None for an unknown name."""
+    if len(thing) != length:
         raise FormError("a statement or an expression is unknown")

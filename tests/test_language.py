@@ -42,6 +42,9 @@ FORBIDDEN = (
 
 DOUBLE = {"__init__", "__eq__", "__repr__", "__str__", "__len__", "__enter__", "__exit__", "__call__", "__iter__"}
 
+ITERATING = set((
+    "list tuple dict sorted sum any all enumerate zip min max len reversed range permutations").split())
+
 BUILTIN_NAMES = {name for name in dir(builtins) if not name.startswith("_")}
 
 
@@ -49,6 +52,10 @@ def trees():
     for path in sorted(PACKAGE.rglob("*.py")):
         text = path.read_text(encoding="utf-8")
         yield path, text, ast.parse(text)
+
+
+TABLES = {item.targets[0].id for _, _, tree in trees() for item in tree.body
+          if isinstance(item, ast.Assign) and isinstance(item.value, (ast.Dict, ast.List))}
 
 
 def own_methods():
@@ -183,6 +190,44 @@ class Code(unittest.TestCase):
                 if isinstance(item, (ast.FunctionDef, ast.ClassDef)):
                     self.assertNotIn(item.name, NEVER | NOT_NAMES | BUILTIN_NAMES | {"args"}, path)
             self.assertFalse({item.id for item in ast.walk(tree) if isinstance(item, ast.Name)} & WORDS, path)
+
+    def test_tables_of_the_module_level_are_only_read(self):
+        for path, _, tree in trees():
+            tables = {item.targets[0].id for item in tree.body
+                      if isinstance(item, ast.Assign) and isinstance(item.value, (ast.Dict, ast.List))}
+            tables.update(alias.name for item in tree.body if isinstance(item, ast.ImportFrom) for alias in item.names
+                          if alias.name in TABLES)
+            read = set()
+            for item in ast.walk(tree):
+                if isinstance(item, (ast.Subscript, ast.Attribute)) and isinstance(item.ctx, ast.Load):
+                    read.add(item.value)
+                elif isinstance(item, ast.Compare):
+                    read.update(item.comparators)
+                elif isinstance(item, (ast.For, ast.comprehension)):
+                    read.add(item.iter)
+            for item in ast.walk(tree):
+                if isinstance(item, ast.Name) and isinstance(item.ctx, ast.Load) and item.id in tables:
+                    self.assertIn(item, read, (path.name, item.lineno, item.id))
+
+    def test_ranges_and_the_like_are_iterated_on_the_spot(self):
+        for path, _, tree in trees():
+            iterated = set()
+            for item in ast.walk(tree):
+                if isinstance(item, (ast.For, ast.comprehension)):
+                    iterated.add(item.iter)
+                elif isinstance(item, ast.Call) and isinstance(item.func, ast.Name) and item.func.id in ITERATING:
+                    iterated.update(item.args)
+            for item in ast.walk(tree):
+                if isinstance(item, ast.Call):
+                    name = item.func.id if isinstance(item.func, ast.Name) else getattr(item.func, "attr", "")
+                    if name in ("range", "zip", "enumerate", "reversed", "items", "keys", "values", "permutations"):
+                        self.assertIn(item, iterated, (path.name, item.lineno, name))
+
+    def test_what_isinstance_is_asked(self):
+        for path, _, tree in trees():
+            for item in ast.walk(tree):
+                if isinstance(item, ast.Call) and isinstance(item.func, ast.Name) and item.func.id == "isinstance":
+                    self.assertIsInstance(item.args[1], (ast.Name, ast.Tuple), (path.name, item.lineno))
 
     def test_errors_that_are_caught_and_raised(self):
         for path, _, tree in trees():

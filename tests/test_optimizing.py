@@ -144,6 +144,11 @@ class Optimizing(unittest.TestCase):
         graph = read_graph("input i2k3 -9 9\ninput k3 -9 9\nmul 0 1\nsum 2 k\nout 3 2\n")
         self.assertEqual(optimize(graph, 50), ((), graph))
 
+    def test_parts_that_only_nodes_use_that_no_output_needs(self):
+        graph = read_graph("input i2k3 -9 9\ninput k3 -9 9\nmul 0 1\nneg 2\nsum 2 k\nneg 3\nout 4\n")
+        steps, result = self.check(graph, 50)
+        self.assertEqual((steps, cost_of(result)), ((("sum-dot", 4),), 6))
+
     def test_fuel_out_of_its_range(self):
         graph = ((given(""),), (0,))
         self.assertEqual(optimize(graph, 0), ((), graph))
