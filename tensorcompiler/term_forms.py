@@ -92,13 +92,14 @@ def _plus(table, one, other, sign):
     number, pairs = sum_of(table, one)
     more, further = sum_of(table, other)
     number = number + sign * more
-    factors = dict(pairs)
+    # The pairs of the first term are not made again, so that the sums on the way to a long one share theirs.
+    found = {pair[0]: pair for pair in pairs}
     cancels = False
     for unit, factor in further:
-        before = factors.get(unit, 0)
-        factors[unit] = before + sign * factor
+        before = found[unit][1] if unit in found else 0
+        found[unit] = (unit, before + sign * factor)
         cancels = cancels or before * sign * factor < 0
-    pairs = tuple(sorted(factors.items()))
+    pairs = tuple(sorted(found.values()))
     if cancels:
         return _cancelled(table, number, pairs)
     low, high = table.span(one)
@@ -108,7 +109,7 @@ def _plus(table, one, other, sign):
 
 def _cancelled(table, number, pairs):
     """Return the sum without the pairs whose factor is 0."""
-    remaining = tuple([(unit, factor) for unit, factor in pairs if factor != 0])
+    remaining = tuple([pair for pair in pairs if pair[1] != 0])
     low = high = number
     for unit, factor in remaining:
         least, most = corners((factor, factor), table.span(unit))
