@@ -3,7 +3,7 @@
 from tensorcompiler.domains import check_fields
 from tensorcompiler.errors import FormError, RangeError, TooLarge
 from tensorcompiler.kinds import ARG_COUNTS, FIELDS, POINTWISE
-from tensorcompiler.machines import check_machine
+from tensorcompiler.machines import check_machine, word_bounds
 
 # What the fields of each instruction are, in order. "sources" and "info" are tuples, "kind" is a string.
 INSTRUCTION_FIELDS = {
@@ -21,6 +21,8 @@ INSTRUCTION_FIELDS = {
     "wait": ("queue",),
 }
 
+SLOTS = 32
+OFFSET_LIMIT = 16384
 _CODE_LIMIT = 4000000
 _DEPTH_LIMIT = 16
 _STEP_LIMIT = 1000000000
@@ -104,7 +106,7 @@ def _bounds(machine):
     """Return the least and the greatest number that each field can have on the machine."""
     width, _, _, queues, lanes = machine
     return {
-        "slot": (0, 31), "word": (-(1 << (width - 1)), (1 << (width - 1)) - 1), "offset": (-16384, 16384),
+        "slot": (0, SLOTS - 1), "word": word_bounds(machine), "offset": (-OFFSET_LIMIT, OFFSET_LIMIT),
         "lanes": (1, lanes), "begin": (-(1 << width), 1 << width), "turns": (1, 1000), "skipped": (0, 4000000),
         "queue": (0, queues - 1), "count": (1, 4096),
     }

@@ -15,5 +15,11 @@ def check_machine(machine):
 def fits(machine, n):
     """Return True if a word of the machine can hold the number."""
     check_machine(machine)
+    low, high = word_bounds(machine)
+    return low <= n <= high
+
+
+def word_bounds(machine):
+    """Return the least and the greatest number that a word of a valid machine can hold."""
     width = machine[0]
-    return -(1 << (width - 1)) <= n < 1 << (width - 1)
+    return (-(1 << (width - 1)), (1 << (width - 1)) - 1)

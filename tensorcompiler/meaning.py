@@ -15,15 +15,17 @@ def evaluate(graph, feeds):
 def evaluate_all(graph, feeds):
     """Return the values of all nodes."""
     domains = check_graph(graph)
-    places = input_places(graph[0])
-    _check_feeds(feeds, [domains[place] for place in places])
-    return all_items(Numbers(), graph[0], domains, dict(zip(places, feeds)))
+    check_feeds(graph[0], domains, feeds)
+    return all_items(Numbers(), graph[0], domains, dict(zip(input_places(graph[0]), feeds)))
 
 
-def _check_feeds(feeds, domains):
-    if len(feeds) != len(domains):
+def check_feeds(nodes, domains, feeds):
+    """Raise the error of feeds for nodes with these domains."""
+    places = input_places(nodes)
+    if len(feeds) != len(places):
         raise FeedError("there are not as many feeds as inputs")
-    for feed, (shape, low, high) in zip(feeds, domains):
+    for feed, place in zip(feeds, places):
+        shape, low, high = domains[place]
         if len(feed) != count_of(shape):
             raise FeedError("a feed does not have as many numbers as its input")
         for n in feed:

@@ -56,14 +56,22 @@ class Terms:
             raise FormError("the index of a pick reaches beyond its list")
         if low == high:
             return ids[low]
-        number, by, pairs, (first, last) = row_of(self, index)
-        choices = tuple([ids[number + by * turn] for turn in range(first, last + 1)])
+        first, by, many, counted = self.row(index)
+        choices = tuple([ids[first + by * turn] for turn in range(many)])
         if all([choice == choices[0] for choice in choices]):
             return choices[0]
-        counted = self._place(form_of_sum(self, -first, pairs), 0, last - first)
         spans = [self.span(choice) for choice in choices]
         least = min([span[0] for span in spans])
         return self._place(("pick", choices + (counted,), ()), least, max([span[1] for span in spans]))
+
+    def row(self, index):
+        """Return a term that is no number as c + g V: c + g s, g, how many numbers V can be, and the id of V - s.
+
+        Here s is the least number that V can be.
+        """
+        number, by, pairs, (least, most) = row_of(self, index)
+        counted = self._place(form_of_sum(self, -least, pairs), 0, most - least)
+        return (number + by * least, by, most - least + 1, counted)
 
     def span(self, id_of_term):
         """Return the interval of a term."""

@@ -34,6 +34,13 @@ FUNCTIONS = {
     "machines": ("check_machine(machine)", "fits(machine, n)"),
     "instructions": ("check_code(machine, code)",),
     "listing": ("write_code(machine, code)", "read_code(machine, text)"),
+    "device": ("run_code(machine, code, main, near, delays)",),
+    "auditing": ("audit_code(table, machine, code, main)",),
+    "generating": ("generate(machine, program, layout, spare)",),
+    "building": ("build(graph, schedule, machine)",),
+    "certifying": ("certify(graph, machine, code, inputs, constants, outputs)",),
+    "images": (
+        "load_image(image, feeds, filler)", "unload_image(image, main)", "run_image(image, feeds, filler, delays)"),
 }
 
 METHODS = {
@@ -41,13 +48,19 @@ METHODS = {
         "__init__(self)", "__len__(self)", "number(self, n)", "variable(self, key, low, high)",
         "make(self, kind, ids, info)", "pick(self, ids, index)", "span(self, id_of_term)",
         "value(self, id_of_term, values)"),
+    ("device", "Device"): (
+        "__init__(self, machine, code, main, near, delays)", "step(self)", "slot(self, k)", "main_word(self, k)",
+        "near_word(self, k)", "pending(self, q)"),
 }
+
+PROPERTIES = {("device", "Device"): ("at", "stopped")}
 
 CONSTANTS = {
     "shapes": {"RANK_LIMIT": 4, "SIZE_LIMIT": 16, "COUNT_LIMIT": 256},
     "kinds": {"NODE_LIMIT": 400, "WORK_LIMIT": 50000, "WIDTH_LIMIT": 200},
     "terms": {"VALUE_LIMIT": 20000},
     "changes": {"CHANGES": ("tile", "swap", "unroll", "reverse", "split", "fuse", "stage")},
+    "generating": {"SPARE": 20},
 }
 
 
@@ -70,6 +83,15 @@ class Interface(unittest.TestCase):
             for head in heads:
                 method = vars(found)[head.split("(")[0]]
                 self.assertEqual(method.__name__ + str(inspect.signature(method)), head)
+
+    def test_properties_stand_in_the_class_itself(self):
+        for (name, kind), names in PROPERTIES.items():
+            found = getattr(module(name), kind)
+            for one in names:
+                self.assertIsInstance(vars(found)[one], property)
+
+    def test_image_is_defined_in_building(self):
+        self.assertEqual(module("building").Image.__module__, "tensorcompiler.building")
 
     def test_constants(self):
         for name, constants in CONSTANTS.items():
