@@ -215,6 +215,8 @@ class RacesTransfers(Base):
         code = BRING + (("in", 1, 0, 0, 0, 8, 1), wait(1), ("in", 1, 0, 0, 0, 9, 1), ("load", 2, 0, 8))
         self.accept(*code)
         self.refuse(Racing, *code, ("load", 2, 0, 9))
+        self.refuse(Racing, *code, wait(1), ("in", 1, 0, 0, 0, 8, 1), ("load", 2, 0, 8))
+        self.refuse(Racing, *BRING, *(("out", 1, 0, 8, 0, 0, 1), wait(1)) * 2, ("out", 1, 0, 8, 0, 0, 1), ("store", 0, 0, 1))
         # Transfers are in flight until the end of the code without harm.
         self.accept(*BRING, ("in", 1, 0, 0, 0, 8, 1), ("out", 0, 0, 8, 0, 0, 1))
 
@@ -432,7 +434,7 @@ class Drawn(unittest.TestCase):
 
     def check(self, seed):
         random = Random(seed)
-        machine = random.choice((MACHINE, (32, 6, 18, 4, 16), (40, 20, 16, 1, 2)))
+        machine = random.choice((MACHINE, (32, 6, 18, 4, 16), (32, 6, 18, 4, 1), (40, 20, 16, 1, 2)))
         table = Terms()
         main = []
         for k in range(machine[1]):

@@ -8,12 +8,13 @@ from schedules import drawn_schedule, plain_schedule
 from tensorcompiler.auditing import audit_code
 from tensorcompiler.building import Image, build
 from tensorcompiler.changes import apply_change
+from tensorcompiler.device import Device
 from tensorcompiler.errors import (
-    AxisError, ChangeError, FormError, KeptError, MachineError, NoRoom, PlaceError, RangeError, RuleError, TensorError, TooLarge, TooWide)
+    AxisError, ChangeError, FormError, KeptError, MachineError, NoRoom, PlaceError, RuleError, TensorError, TooLarge, TooWide)
 from tensorcompiler.generating import SPARE
 from tensorcompiler.graph_terms import graph_terms
 from tensorcompiler.graphs import check_graph
-from tensorcompiler.images import run_image
+from tensorcompiler.images import load_image, run_image
 from tensorcompiler.instructions import check_code
 from tensorcompiler.lives import lives
 from tensorcompiler.loops import check_program
@@ -132,6 +133,17 @@ class Rooms(unittest.TestCase):
         self.assertEqual(run_image(image, ((1, -5, 9),), (4,), ()), ((2, -3, 12), (1, -5, 9)))
         with self.assertRaises(NoRoom):
             build(GRAPH, staged, (64, 15, 25, 1, 1))
+
+    def test_near_buffers_stand_in_a_row(self):
+        # The first near buffer holds the node 3, the second one the input.
+        changes = (("stage", (2,), 3, (0, ()), 3, "in"), ("stage", (0,), 0, (0, ()), 3, "in"))
+        image = build(GRAPH, ((), (2, 3, 4), changes, (0, 3, 6)), (64, 15, 26, 1, 1))
+        feeds = ((1, -5, 9),)
+        device = Device(image.machine, image.code, load_image(image, feeds, (0,)), (0,) * 26, ())
+        while device.step():
+            pass
+        self.assertEqual([device.near_word(k) for k in range(6)], [-2, 3, -12, 1, -5, 9])
+        self.assertEqual(run_image(image, feeds, (0,), ()), evaluate(GRAPH, feeds))
 
     def test_large_memories(self):
         build(GRAPH, PLAIN, (256, 16384, 4096, 4, 16))

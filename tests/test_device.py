@@ -160,6 +160,7 @@ class Instructions(Base):
         one = ("set", 1, 1)
         self.words({0: TOP - 1}, one, ("vector", "add", 0, 0, 1, 1), near=near)
         self.words({2: -TOP + 1}, one, ("set", 2, 2), ("vector", "add", 2, 2, 1, 1), near=near)
+        self.words({0: -TOP}, one, ("vector", "min", 0, 0, 1, 1), near=(5, -TOP) + near[2:])
         # The last of the results is one too many: none is set.
         self.trap(1, one, ("vector", "add", 0, 0, 1, 1), near=(TOP - 1, 1) + (0,) * 14)
         self.trap(2, one, ("set", 2, 8), ("vector", "add", 2, 0, 1, 3), near=(5, 1, TOP - 1, 1) + (0,) * 12)

@@ -41,6 +41,17 @@ FUNCTIONS = {
     "certifying": ("certify(graph, machine, code, inputs, constants, outputs)",),
     "images": (
         "load_image(image, feeds, filler)", "unload_image(image, main)", "run_image(image, feeds, filler, delays)"),
+    "scheduling": ("default_schedule(graph)", "tuned_schedule(graph, machine)"),
+    "scales": (
+        "multiplier(a)", "code_of(pair, bits, x)", "meaning_of(pair, code)", "choose_table(graph, bits)",
+        "check_table(graph, table, bits)"),
+    "quantizing": (
+        "quantize_graph(graph, table, bits)", "encode_feeds(graph, table, bits, feeds)",
+        "decode_outputs(graph, table, bits, values)"),
+    "bounds": ("bound_of(graph, table, bits)",),
+    "updating": ("step_graph(graph, parameters, rate, low, high)",),
+    "journal": ("check_number(text)", "journal_line(steps, weights)", "read_line(line, sizes)"),
+    "trainer": ("resume(trainer, text)",),
 }
 
 METHODS = {
@@ -51,9 +62,12 @@ METHODS = {
     ("device", "Device"): (
         "__init__(self, machine, code, main, near, delays)", "step(self)", "slot(self, k)", "main_word(self, k)",
         "near_word(self, k)", "pending(self, q)"),
+    ("trainer", "Trainer"): (
+        "__init__(self, graph, parameters, *, rate, low, high, schedule, machine, weights)",
+        "step(self, batch, filler, delays)"),
 }
 
-PROPERTIES = {("device", "Device"): ("at", "stopped")}
+PROPERTIES = {("device", "Device"): ("at", "stopped"), ("trainer", "Trainer"): ("weights", "steps", "journal")}
 
 CONSTANTS = {
     "shapes": {"RANK_LIMIT": 4, "SIZE_LIMIT": 16, "COUNT_LIMIT": 256},
