@@ -5,10 +5,13 @@ from tensorcompiler.graphs import check_graph
 
 MOVING = ("order", "rename", "spread", "cut", "pad", "window")
 
-_KINDS = ("input", "const", "add", "sub", "mul", "max", "min", "neg", "sum", "dot", "join") + MOVING
+_KINDS = (
+    "input", "const", "add", "sub", "mul", "max", "min", "neg", "sum", "dot", "join", "order", "rename", "spread",
+    "cut", "pad", "window",
+)
 
-# The greatest numerator and denominator of a scale.
-_SCALE_LIMIT = 1 << 40
+# The numerator and the denominator of a scale are at most 2 to this power.
+_SCALE_BITS = 40
 
 
 def check_bits(bits):
@@ -38,9 +41,10 @@ def check_model_and_table(graph, table, bits):
     if len(table) != len(graph[0]):
         raise TableError("there are not as many pairs as nodes")
     least, most = code_bounds(bits)
+    greatest = 1 << _SCALE_BITS
     for (kind, args, _), (_, low, high), pair in zip(graph[0], domains, table):
         scale, zero = pair
-        if scale[0] <= 0 or scale[0] > _SCALE_LIMIT or scale[1] > _SCALE_LIMIT:
+        if scale[0] <= 0 or scale[0] > greatest or scale[1] > greatest:
             raise TableError("a scale is not greater than zero, or its numbers are too great")
         if zero < least or zero > most:
             raise TableError("a zero is not a code")
