@@ -1,7 +1,7 @@
 """The lines of a journal: the weights after a number of steps, with a check number."""
 
 from tensorcompiler.errors import JournalError, TextError
-from tensorcompiler.numerals import read_integer
+from tensorcompiler.numerals import read_integer, write_integer
 
 _MODULUS = 65521
 _DIGITS_LIMIT = 70
@@ -14,10 +14,10 @@ def check_number(text):
 
 def journal_line(steps, weights):
     """Return the line for the weights after that many steps, with its line feed."""
-    words = ["step", str(steps)]
+    words = ["step", write_integer(steps)]
     for row in weights:
         words.append(";")
-        words.extend([str(n) for n in row])
+        words.extend([write_integer(n) for n in row])
     text = " ".join(words)
     return f"{text} check {check_number(text)}\n"
 

@@ -12,3 +12,17 @@ def read_integer(text, most):
     if digits.startswith("0") and text != "0":
         raise TextError("an integer begins with a zero, or nought has a sign")
     return int(text)
+
+
+def write_integer(n):
+    """Return the text of an integer of any size."""
+    # Python itself refuses to write numbers of some thousands of digits, so long ones are written in parts.
+    above = 10 ** 60
+    rest = abs(n)
+    parts = []
+    while rest >= above:
+        rest, low = divmod(rest, above)
+        parts.append(str(low).zfill(60))
+    parts.append(str(rest))
+    text = "".join(parts[::-1])
+    return "-" + text if n < 0 else text

@@ -35,6 +35,13 @@ class Writing(unittest.TestCase):
             self.assertEqual(journal_line(steps, weights), checked(text) + "\n")
 
 
+    def test_numbers_of_any_size(self):
+        for digits in (59, 60, 61, 119, 120, 121, 5000):
+            for first, other in ((10 ** (digits - 1), "1" + "0" * (digits - 1)), (10 ** digits - 1, "9" * digits),
+                                 (10 ** (digits - 1) + 7, "1" + "0" * (digits - 2) + "7")):
+                self.assertEqual(journal_line(first, ((-first, first),)), checked(f"step {other} ; -{other} {other}") + "\n")
+
+
 class Reading(unittest.TestCase):
     def refuse(self, line, sizes):
         with self.assertRaises(JournalError):
